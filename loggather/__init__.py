@@ -1,0 +1,1 @@
+"""Loggather: lines of a log gathered under patterns."""

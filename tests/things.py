@@ -1,0 +1,24 @@
+"""Things for questions that are told of anything: see point 2."""
+
+SINGLES = [
+    0, 1, -1, 7, 12, 10 ** 39, -(10 ** 39), 10 ** 40 - 1, True, False, None,
+    "", " ", "a", "a b", "word", "hole", "number", "name", "any", "7", "\n", "a\n",
+]
+
+PARTS = [("word", "a"), ("hole", "any"), ("hole", "number"), ("word", "-7")]
+
+
+def pairs(things):
+    return [(one, other) for one in things for other in things]
+
+
+def anything():
+    """Things of all sorts, up to four within one another."""
+    found = list(SINGLES) + [[], ()]
+    found += pairs(SINGLES)
+    found += [list(pair) for pair in pairs(SINGLES)]
+    for inner in list(SINGLES) + [[], ()] + PARTS:
+        for once in ([inner], (inner,)):
+            for twice in ([once], (once,), ("word", once), ("hole", once), (once, "a")):
+                found += [once, twice, [twice], (twice,), [[twice]], ((twice,),)]
+    return found
