@@ -21,7 +21,8 @@ class NoMoment(GatherError):
     """A moment is less than that of the line that came last."""
 
     def __init__(self, last):
-        GatherError.__init__(self, f"the last line came at {last}")
+        # The moment is not in the text, because Python writes out no numbers of thousands of figures.
+        GatherError.__init__(self, "the line that came last has a later moment")
         self.last = last
 
 

@@ -40,7 +40,10 @@ def part_takes(part, word):
 def all_taken(parts, words):
     if len(parts) != len(words):
         return False
-    return all([part_takes(part, word) for part, word in zip(parts, words)])
+    for part, word in zip(parts, words):
+        if not part_takes(part, word):
+            return False
+    return True
 
 
 def fits(pattern, line):

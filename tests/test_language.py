@@ -164,6 +164,57 @@ class Language(unittest.TestCase):
                 if isinstance(node, ast.Attribute):
                     self.assertIn(node.attr, own | METHODS)
 
+    def test_no_name_is_both_a_method_and_an_attribute(self):
+        methods, attributes = [], set()
+        for path, text, tree in self.each():
+            methods += [method.name for method in methods_of(tree)]
+            attributes |= {node.attr for node in ast.walk(tree)
+                           if isinstance(node, ast.Attribute) and isinstance(node.ctx, ast.Store)}
+        self.assertEqual(attributes & set(methods), set())
+        self.assertNotIn("sort", methods)
+
+    def test_no_file_imports_from_itself_through_others(self):
+        imports = {}
+        for path, text, tree in self.each():
+            imports[f"loggather.{path.stem}"] = {
+                node.module for node in tree.body if isinstance(node, ast.ImportFrom)}
+        while imports:
+            free = [name for name, others in imports.items() if not others & set(imports)]
+            self.assertNotEqual(free, [], f"imports in a ring: {sorted(imports)}")
+            for name in free:
+                del imports[name]
+
+    def test_sets_stand_in_sorted_len_and_in_alone(self):
+        for path, text, tree in self.each():
+            good = []
+            for node in ast.walk(tree):
+                if isinstance(node, ast.Call) and isinstance(node.func, ast.Name) and not node.keywords:
+                    if node.func.id in ("sorted", "len"):
+                        good += node.args
+                if isinstance(node, ast.Compare):
+                    good += node.comparators
+            for node in ast.walk(tree):
+                if isinstance(node, ast.Call) and isinstance(node.func, ast.Name):
+                    if node.func.id in ("set", "frozenset"):
+                        self.assertIn(node, good, node.lineno)
+                self.assertNotIsInstance(node, ast.SetComp)
+
+    def test_nothing_is_sorted_in_place(self):
+        for path, text, tree in self.each():
+            self.assertNotIn("sort", [node.attr for node in ast.walk(tree) if isinstance(node, ast.Attribute)])
+
+    def test_double_methods_change_nothing(self):
+        for path, text, tree in self.each():
+            for method in methods_of(tree):
+                if method.name in OWN_DOUBLE and method.name != "__init__":
+                    for node in ast.walk(method):
+                        self.assertNotIsInstance(node, (ast.Assign, ast.AugAssign, ast.AnnAssign, ast.Delete))
+                    self.assertIsInstance(method.body[-1], ast.Return)
+                if method.name == "__len__":
+                    for node in ast.walk(method):
+                        if isinstance(node, ast.Return):
+                            self.assertEqual(node.value.func.id, "len")
+
     def test_is(self):
         for path, text, tree in self.each():
             for node in ast.walk(tree):
