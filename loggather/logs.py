@@ -46,6 +46,10 @@ class State:
         self.found = gathered([line for line, fall in zip(lines, first) if fall is None], sieve)
         self.falls = [falls_under(line, self.found) if fall is None else fall for line, fall in zip(lines, first)]
 
+    def fall_of(self, line):
+        fall = falls_under(line, self.by_hand)
+        return falls_under(line, self.found) if fall is None else fall
+
 
 class Log:
     """Lines with moments, and the patterns under which they fall."""
@@ -136,6 +140,10 @@ class Log:
     def under(self, number):
         """The pattern under which the line of a number falls."""
         return list(self.state.falls[number])
+
+    def would_fall(self, line):
+        """The pattern under which a line would fall if it isn't gathered, or None."""
+        return self.state.fall_of(line)
 
     def counts(self, low, high):
         """Of each pattern how many lines from low on, ahead of high, fall under it."""

@@ -4,7 +4,7 @@ MOST_WORDS = 12
 FIGURES = "0123456789"
 SMALL_LETTERS = "abcdefghijklmnopqrstuvwxyz"
 
-# From ! to ~ but the percent sign.
+# From ! to ~ but the percent sign, in the order in which texts compare.
 WORD_SIGNS = (
     "!\"#$&'()*+,-./0123456789:;<=>?@ABCDEFGHIJKLMNOPQRSTUVWXYZ[\\]^_`abcdefghijklmnopqrstuvwxyz{|}~")
 
